@@ -74,6 +74,10 @@ def atoms_of(concepts):
     return atoms
 
 
+def bit_is_set(number, place):
+    return (number >> place) & 1 == 1
+
+
 def part_holds(part, within, atoms, kind):
     first = part[0]
     if first == EVERYTHING:
@@ -87,7 +91,7 @@ def part_holds(part, within, atoms, kind):
     if first == OPPOSITE:
         return not within[0]
     # What stands within an atom 6 or 7 is said of other things, so only its own bit counts.
-    return ((kind >> atoms.index(part)) & 1) == 1
+    return bit_is_set(kind, atoms.index(part))
 
 
 # From right to left the parts of a part are always known before it.

@@ -1,15 +1,21 @@
 """A house of axioms and roles, and the calls on it."""
 
-from rolehouse.concepts import atoms_of, split_concepts
+from rolehouse.concepts import BOTH, HIGHEST_SIGN, OPPOSITE, atoms_of, split_concepts
 from rolehouse.kinds import Kinds
 from rolehouse.roles import ROLE_COUNT, all_roles_over
+from rolehouse.told import told_model
 
 BEGINS = 0
 LINE = 1
 ROLE = 2
 CAN = 3
+UNDER = 4
+MODEL = 5
+ROLES = 6
+NAMES = 7
 
 WRONG_FORM = -1
+NO_MODEL = -6
 TOO_MANY = -7
 
 MOST_AXIOMS = 5
@@ -26,11 +32,6 @@ class House:
         self.axioms = []
         self.told = []
 
-    def begins(self):
-        self.axioms = []
-        self.told = []
-        return 0
-
     # The axioms' atoms come first, in order, then those of the concepts.
     def atoms_with(self, concepts):
         row = []
@@ -39,11 +40,28 @@ class House:
             row.append(second)
         return atoms_of(row + concepts)
 
-    def line(self, numbers):
-        concepts = split_concepts(numbers, 2)
+    # Gives 0 if nothing speaks against the concepts; they are None if their row has the wrong form.
+    def refusal(self, concepts):
         if concepts is None:
             return WRONG_FORM
-        if len(self.axioms) >= MOST_AXIOMS or len(self.atoms_with(concepts)) > MOST_ATOMS:
+        if len(self.atoms_with(concepts)) > MOST_ATOMS:
+            return TOO_MANY
+        return 0
+
+    def kinds_with(self, concepts):
+        return Kinds(self.atoms_with(concepts), all_roles_over(self.told), self.axioms)
+
+    def begins(self):
+        self.axioms = []
+        self.told = []
+        return 0
+
+    def line(self, numbers):
+        concepts = split_concepts(numbers, 2)
+        refused = self.refusal(concepts)
+        if refused < 0:
+            return refused
+        if len(self.axioms) >= MOST_AXIOMS:
             return TOO_MANY
         self.axioms.append((concepts[0], concepts[1]))
         return len(self.axioms) - 1
@@ -58,24 +76,51 @@ class House:
 
     def can(self, numbers):
         concepts = split_concepts(numbers, 1)
-        if concepts is None:
-            return WRONG_FORM
-        atoms = self.atoms_with(concepts)
-        if len(atoms) > MOST_ATOMS:
-            return TOO_MANY
-        kinds = Kinds(atoms, all_roles_over(self.told))
-        truths = kinds.truths(concepts[0])
-        return 1 if any([truths[kind] for kind in kinds.possible(self.axioms)]) else 0
+        refused = self.refusal(concepts)
+        if refused < 0:
+            return refused
+        return 1 if self.kinds_with(concepts).having(concepts[0]) else 0
+
+    def under(self, numbers):
+        concepts = split_concepts(numbers, 2)
+        refused = self.refusal(concepts)
+        if refused < 0:
+            return refused
+        apart = (BOTH,) + concepts[0] + (OPPOSITE,) + concepts[1]
+        return 0 if self.kinds_with(concepts).having(apart) else 1
+
+    def model(self, numbers):
+        concepts = split_concepts(numbers, 1)
+        refused = self.refusal(concepts)
+        if refused < 0:
+            return [refused]
+        kinds = self.kinds_with(concepts)
+        found = kinds.having(concepts[0])
+        return told_model(kinds, found[0]) if found else [NO_MODEL]
+
+    def roles(self):
+        numbers = [ROLE_COUNT]
+        for uppers in all_roles_over(self.told):
+            numbers.extend([1 if role in uppers else 0 for role in range(ROLE_COUNT)])
+        return numbers
+
+    def names(self):
+        kinds = self.kinds_with([])
+        every_name = list(range(HIGHEST_SIGN + 1))
+        numbers = [1 if kinds.possible else 0]
+        for lower in every_name:
+            numbers.extend([1 if kinds.name_under(lower, upper) else 0 for upper in every_name])
+        return numbers
 
 
 def call_end(calls, start):
-    if calls[start] == BEGINS:
-        return start + 1
-    if calls[start] == ROLE:
-        return start + 3
-    if calls[start] in (LINE, CAN):
-        return start + 2 + calls[start + 1]
     number = calls[start]
+    if number in (BEGINS, ROLES, NAMES):
+        return start + 1
+    if number == ROLE:
+        return start + 3
+    if number in (LINE, CAN, UNDER, MODEL):
+        return start + 2 + calls[start + 1]
     raise UnknownCall(f"no such call: {number}")
 
 
@@ -86,7 +131,15 @@ def answer(house, call):
         return [house.line(call[2:])]
     if call[0] == ROLE:
         return [house.role(call[1], call[2])]
-    return [house.can(call[2:])]
+    if call[0] == CAN:
+        return [house.can(call[2:])]
+    if call[0] == UNDER:
+        return [house.under(call[2:])]
+    if call[0] == MODEL:
+        return house.model(call[2:])
+    if call[0] == ROLES:
+        return house.roles()
+    return house.names()
 
 
 def answers(calls):

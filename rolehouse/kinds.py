@@ -1,6 +1,6 @@
 """Kinds of things: a kind is a number whose bit k says whether atom k holds."""
 
-from rolehouse.concepts import EACH, SOME, holds, parts_of
+from rolehouse.concepts import EACH, NAMED, SOME, bit_is_set, holds, parts_of
 from rolehouse.roles import ROLE_COUNT, turned
 
 
@@ -12,7 +12,7 @@ def bits_of(flags):
 # A kind shows an atom 6 if what's in it holds there, an atom 7 if that doesn't.
 # What a kind doesn't owe, no kind may show to which its role leads: so these two words are enough.
 class Kinds:
-    def __init__(self, atoms, over):
+    def __init__(self, atoms, over, axioms):
         self.atoms = atoms
         self.over = over
         self.every_kind = list(range(1 << len(atoms)))
@@ -20,6 +20,8 @@ class Kinds:
         self.each_bits = bits_of([atom[0] == EACH for atom in atoms])
         self.role_bits = [self.bits_by_role(role) for role in range(ROLE_COUNT)]
         self.shown_bits = self.all_shown_bits()
+        # The kinds that can be there, the lowest first.
+        self.possible = self.largest_borne_out(self.keeping(axioms))
 
     def bits_by_role(self, role):
         return bits_of([atom[0] in (SOME, EACH) and atom[1] == role for atom in self.atoms])
@@ -50,17 +52,21 @@ class Kinds:
                 return False
         return True
 
-    def has_bearer(self, kind, place, kept):
+    def owed_places(self, kind):
+        owed = self.owed_bits(kind)
+        return [place for place in range(len(self.atoms)) if bit_is_set(owed, place)]
+
+    # Gives the first of the kept kinds that bears the atom out, or None.
+    def bearer(self, kind, place, kept):
         role = self.atoms[place][1]
         for other in kept:
-            if (self.shown_bits[other] >> place) & 1 == 1 and self.fits(role, kind, other):
-                return True
-        return False
+            if bit_is_set(self.shown_bits[other], place) and self.fits(role, kind, other):
+                return other
+        return None
 
     def borne_out(self, kind, kept):
-        owed = self.owed_bits(kind)
-        for place in range(len(self.atoms)):
-            if (owed >> place) & 1 == 1 and not self.has_bearer(kind, place, kept):
+        for place in self.owed_places(kind):
+            if self.bearer(kind, place, kept) is None:
                 return False
         return True
 
@@ -72,11 +78,37 @@ class Kinds:
             kept = [kind for kind in kept if seconds[kind] or not firsts[kind]]
         return kept
 
-    # The kinds that can be there, the lowest first.
-    def possible(self, axioms):
-        kept = self.keeping(axioms)
+    def largest_borne_out(self, kinds):
+        kept = list(kinds)
         before = len(kept) + 1
         while len(kept) < before:
             before = len(kept)
             kept = [kind for kind in kept if self.borne_out(kind, kept)]
         return kept
+
+    # The kinds that can be there in which the concept holds, the lowest first.
+    def having(self, concept):
+        truths = self.truths(concept)
+        return [kind for kind in self.possible if truths[kind]]
+
+    # For each owed atom, in order, its role and the lowest kind that bears it out.
+    def steps(self, kind):
+        return [(self.atoms[place][1], self.bearer(kind, place, self.possible)) for place in self.owed_places(kind)]
+
+    def names_sum(self, kind):
+        names = [atom[1] for place, atom in enumerate(self.atoms) if atom[0] == NAMED and bit_is_set(kind, place)]
+        return sum([1 << name for name in names])
+
+    # A name that isn't among the atoms may be had by a thing of any kind, and lacked as well.
+    def allows(self, kind, name, had):
+        if (NAMED, name) not in self.atoms:
+            return True
+        return bit_is_set(kind, self.atoms.index((NAMED, name))) == had
+
+    def name_under(self, lower, upper):
+        if lower == upper:
+            return True
+        for kind in self.possible:
+            if self.allows(kind, lower, True) and self.allows(kind, upper, False):
+                return False
+        return True

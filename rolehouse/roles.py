@@ -1,10 +1,12 @@
 """Roles: how they are turned round, and which stand under which."""
 
 ROLE_COUNT = 4
+# From this number on a role is one of those below it turned round.
+FORWARD_ROLE_COUNT = 2
 
 
 def turned(role):
-    return (role + 2) % ROLE_COUNT
+    return (role + FORWARD_ROLE_COUNT) % ROLE_COUNT
 
 
 def roles_over(role, pairs):

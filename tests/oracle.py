@@ -6,13 +6,59 @@ import unittest
 from rolehouse.house import answers
 
 
+LARGEST = 4294967295
+A, B, C, D = [2, 0], [2, 1], [2, 2], [2, 3]
+
+
+def no(concept):
+    return [5] + concept
+
+
+def both(first, *others):
+    return [3] + first + both(*others) if others else first
+
+
+def either(first, second):
+    return [4] + first + second
+
+
+def some(number, concept):
+    return [6, number] + concept
+
+
+def each(number, concept):
+    return [7, number] + concept
+
+
+# Rows that aren't just one concept, and rows that aren't just two: cut off, with a number left over, or a number too high.
+NOT_ONE = [
+    [], [2], [3], [3, 0], [3, 0, 2], [4], [4, 2, 0], [5], [6], [6, 0], [6, 0, 2], [7], [7, 3], [7, 3, 5], [5, 5, 5],
+    [0, 0], [1, 0], [2, 0, 0], [3, 0, 0, 0], [5, 0, 1], [6, 0, 0, 0], [7, 0, 2, 0, 0], [2, 0, 2, 1],
+    [2, 4], [2, LARGEST], [6, 4, 0], [7, 4, 0], [6, LARGEST, 0], [7, LARGEST, 0], [8], [8, 0], [9, 0, 0], [LARGEST],
+    [3, 0, 8], [3, 8, 0], [4, 0, 2, 4], [5, 8], [5, 2, 4], [6, 0, 8], [6, 0, 2, 4], [7, 1, 6, 4, 0], [7, 1, LARGEST],
+]
+NOT_TWO = [
+    [], [0], [2], [2, 0], [3, 0, 0], [3, 0, 2, 1], [5, 0], [6, 0, 0], [7, 1, 2, 0],
+    [0, 0, 0], [2, 0, 2, 1, 0], [0, 0, 2], [0, 2], [0, 3, 0], [0, 3], [0, 4, 2, 1], [0, 5], [0, 6],
+    [0, 6, 1], [0, 7], [0, 7, 0], [0, 7, 0, 2], [0, 2, 0, 1], [3, 0, 0, 0, 0], [4, 0], [5, 0, 0, 0],
+    [2, 4, 0], [0, 2, 4], [0, 2, LARGEST], [6, 4, 0, 0], [0, 6, 4, 0], [0, 7, 4, 0], [0, 6, LARGEST, 0],
+    [0, 7, LARGEST, 0], [0, 6, 0, 2, 4], [0, 7, 0, 6, 4, 0], [8, 0], [0, 8], [0, LARGEST], [LARGEST, 0],
+    [LARGEST, LARGEST], [9, 0, 0], [0, 5, 8], [0, 3, 0, 8], [0, 6, 0, 8], [8], [LARGEST],
+]
+SIX_ATOMS = both(A, B, C, D, some(0, [0]), each(0, [0]))
+
+
+def with_row(number, concepts):
+    row = sum((list(concept) for concept in concepts), [])
+    return [number, len(row)] + row
+
+
 def begins():
     return [0]
 
 
 def line(*concepts):
-    row = sum((list(concept) for concept in concepts), [])
-    return [1, len(row)] + row
+    return with_row(1, concepts)
 
 
 def role(lower, upper):
@@ -20,19 +66,55 @@ def role(lower, upper):
 
 
 def can(*numbers):
-    return [3, len(numbers)] + list(numbers)
+    return with_row(3, [numbers])
+
+
+def under(*concepts):
+    return with_row(4, concepts)
+
+
+def model(*concepts):
+    return with_row(5, concepts)
+
+
+def roles():
+    return [6]
+
+
+def names():
+    return [7]
 
 
 def join(*calls):
     return sum(calls, [])
 
 
+def split_answers(given):
+    """For each call its numbers; a count that goes beyond the end is a fault."""
+    lists, place = [], 0
+    while place < len(given):
+        end = place + 1 + given[place]
+        if end > len(given) or given[place] < 1:
+            raise AssertionError(f"wrong count at {place}: {given}")
+        lists.append(given[place + 1:end])
+        place = end
+    return lists
+
+
 class ExpectTest(unittest.TestCase):
-    def expect(self, calls, numbers):
-        """Of the calls so far each is answered by one number, ahead of which stands its count."""
-        given = answers(join(*calls))
-        self.assertEqual(given[::2], [1] * len(numbers))
-        self.assertEqual(given[1::2], numbers)
+    def expect(self, calls, expected):
+        """For each call the list that's answered, or the one number."""
+        lists = [item if isinstance(item, list) else [item] for item in expected]
+        self.assertEqual(split_answers(answers(join(*calls))), lists)
+
+    def expect_behind(self, told, asked, expected):
+        """What's told (lines and roles) is taken; behind it each call that asks is answered as expected."""
+        counts = {1: 0, 2: 0}
+        numbers = []
+        for call in told:
+            numbers.append(counts[call[0]])
+            counts[call[0]] += 1
+        self.expect(list(told) + list(asked), numbers + list(expected))
 
 
 def turned(number):
@@ -197,6 +279,62 @@ def small_models(names, things):
                 yield Model(list(chosen), {0: first, 1: second})
 
 
+def number_of(kind):
+    return sum(2 ** place for place, held in enumerate(kind.values()) if held)
+
+
+def lowest(kinds):
+    return min(kinds, key=number_of)
+
+
+def told_numbers(concept, kinds, pairs):
+    """The told model as model answers it, or None; kinds are all that can be there."""
+    having = [kind for kind in kinds if says(kind, concept)]
+    if not having:
+        return None
+    things, ways, place = [lowest(having)], {}, 0
+    while place < len(things):
+        kind = things[place]
+        for atom, held in kind.items():
+            if atom[0] == 2 or held != (atom[0] == 6):
+                continue
+            other = lowest([
+                other for other in kinds if says(other, atom[2]) == held and fits(atom[1], kind, other, pairs)
+            ])
+            if other not in things:
+                things.append(other)
+            target = things.index(other)
+            for lower, upper in pairs:
+                if lower == atom[1]:
+                    ways[place, upper, target] = ways[target, turned(upper), place] = True
+        place += 1
+    numbers = [len(things)]
+    for place, kind in enumerate(things):
+        numbers.append(sum(2 ** atom[1] for atom, held in kind.items() if atom[0] == 2 and held))
+        own = [(number, target) for number in (0, 1) for target in range(len(things)) if (place, number, target) in ways]
+        numbers += [len(own)] + [number for way in own for number in way]
+    return numbers
+
+
+def read_model(numbers):
+    """What model answers, as a Model; every number is used just once."""
+    left = list(numbers)
+    things = left.pop(0)
+    had, steps = [], {0: set(), 1: set()}
+    for thing in range(things):
+        total = left.pop(0)
+        had.append({name for name in range(4) if total >> name & 1})
+        ways = left.pop(0)
+        for _ in range(ways):
+            number, target = left.pop(0), left.pop(0)
+            if target >= things or (thing, target) in steps[number]:
+                raise AssertionError(f"a way to nowhere, or told twice: {numbers}")
+            steps[number].add((thing, target))
+    if left:
+        raise AssertionError(f"left over {left}: {numbers}")
+    return Model(had, steps)
+
+
 class Reference:
     def __init__(self):
         self.axioms = []
@@ -205,52 +343,73 @@ class Reference:
     def row_with(self, concepts):
         return atoms([concept for pair in self.axioms for concept in pair] + concepts)
 
-    def line(self, row):
-        try:
-            concepts = read_all(row, 2)
-        except NotAConcept:
-            return -1
-        if len(self.axioms) == 5 or len(self.row_with(concepts)) > 5:
-            return -7
+    def kinds_with(self, concepts):
+        return possible_kinds(self.axioms, under_pairs(self.told), self.row_with(concepts))
+
+    def begins(self):
+        self.axioms, self.told = [], []
+        return [0]
+
+    def line(self, concepts):
+        if len(self.axioms) == 5:
+            return [-7]
         self.axioms.append(tuple(concepts))
-        return len(self.axioms) - 1
+        return [len(self.axioms) - 1]
 
     def role(self, lower, upper):
         if lower > 3 or upper > 3:
-            return -1
+            return [-1]
         if len(self.told) == 4:
-            return -7
+            return [-7]
         self.told.append((lower, upper))
-        return len(self.told) - 1
+        return [len(self.told) - 1]
 
-    def can(self, row):
+    def can(self, concepts):
+        return [int(any(says(kind, concepts[0]) for kind in self.kinds_with(concepts)))]
+
+    def under(self, concepts):
+        return [int(all(says(kind, concepts[1]) for kind in self.kinds_with(concepts) if says(kind, concepts[0])))]
+
+    def model(self, concepts):
+        return told_numbers(concepts[0], self.kinds_with(concepts), under_pairs(self.told)) or [-6]
+
+    def roles(self):
+        pairs = under_pairs(self.told)
+        return [4] + [int(pair in pairs) for pair in itertools.product(range(4), repeat=2)]
+
+    def names(self):
+        """With each name as an atom, though these may then be more than 5."""
+        kinds = self.kinds_with([(2, name) for name in range(4)])
+        numbers = [int(len(kinds) > 0)]
+        for first, second in itertools.product(range(4), repeat=2):
+            numbers.append(int(all(kind[2, second] for kind in kinds if kind[2, first])))
+        return numbers
+
+    def row_call(self, number, row):
         try:
-            concept = read_all(row, 1)[0]
+            concepts = read_all(row, {1: 2, 3: 1, 4: 2, 5: 1}[number])
         except NotAConcept:
-            return -1
-        found = self.row_with([concept])
-        if len(found) > 5:
-            return -7
-        kinds = possible_kinds(self.axioms, under_pairs(self.told), found)
-        return 1 if any(says(kind, concept) for kind in kinds) else 0
+            return [-1]
+        if len(self.row_with(concepts)) > 5:
+            return [-7]
+        return {1: self.line, 3: self.can, 4: self.under, 5: self.model}[number](concepts)
 
 
 def reference_answers(calls):
     given, house, place = [], Reference(), 0
     while place < len(calls):
         number = calls[place]
-        if number == 0:
-            house = Reference()
-            given += [1, 0]
+        if number in (0, 6, 7):
+            numbers = {0: house.begins, 6: house.roles, 7: house.names}[number]()
             place += 1
         elif number == 2:
-            given += [1, house.role(calls[place + 1], calls[place + 2])]
+            numbers = house.role(calls[place + 1], calls[place + 2])
             place += 3
         else:
             end = place + 2 + calls[place + 1]
-            row = calls[place + 2:end]
-            given += [1, house.line(row) if number == 1 else house.can(row)]
+            numbers = house.row_call(number, calls[place + 2:end])
             place = end
+        given += [len(numbers)] + numbers
     return given
 
 

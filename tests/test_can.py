@@ -2,41 +2,12 @@
 
 import unittest
 
-from tests.oracle import ExpectTest, begins, can, line, role
-
-LARGEST = 4294967295
-A, B, C, D = [2, 0], [2, 1], [2, 2], [2, 3]
-
-
-def no(concept):
-    return [5] + concept
-
-
-def both(first, *others):
-    return [3] + first + both(*others) if others else first
-
-
-def either(first, second):
-    return [4] + first + second
-
-
-def some(number, concept):
-    return [6, number] + concept
-
-
-def each(number, concept):
-    return [7, number] + concept
+from tests.oracle import A, B, C, D, ExpectTest, NOT_ONE, SIX_ATOMS, begins, both, can, each, either, line, no, role, some
 
 
 class CanTest(ExpectTest):
     def check(self, told, *pairs):
-        """What's told (lines and roles) is taken; behind it each concept is answered by its number."""
-        counts = {1: 0, 2: 0}
-        numbers = []
-        for call in told:
-            numbers.append(counts[call[0]])
-            counts[call[0]] += 1
-        self.expect(list(told) + [can(*concept) for concept, number in pairs], numbers + [number for concept, number in pairs])
+        self.expect_behind(told, [can(*concept) for concept, number in pairs], [number for concept, number in pairs])
 
 
 class NothingToldTest(CanTest):
@@ -173,13 +144,7 @@ class AxiomsTest(CanTest):
 
 class RefusalTest(CanTest):
     def test_what_is_not_just_a_concept(self):
-        wrong = [
-            [], [2], [3], [3, 0], [3, 0, 2], [4], [4, 2, 0], [5], [6], [6, 0], [6, 0, 2], [7], [7, 3], [7, 3, 5], [5, 5, 5],
-            [0, 0], [1, 0], [2, 0, 0], [3, 0, 0, 0], [5, 0, 1], [6, 0, 0, 0], [7, 0, 2, 0, 0], [2, 0, 2, 1],
-            [2, 4], [2, LARGEST], [6, 4, 0], [7, 4, 0], [6, LARGEST, 0], [7, LARGEST, 0], [8], [8, 0], [9, 0, 0], [LARGEST],
-            [3, 0, 8], [3, 8, 0], [4, 0, 2, 4], [5, 8], [5, 2, 4], [6, 0, 8], [6, 0, 2, 4], [7, 1, 6, 4, 0], [7, 1, LARGEST],
-        ]
-        for row in wrong:
+        for row in NOT_ONE:
             with self.subTest(row=row):
                 self.expect([can(*row), can(0), line([0], [0])], [-1, 1, 0])
 
@@ -212,8 +177,8 @@ class RefusalTest(CanTest):
         self.check([line(A, B), line(B, C)], (both(A, D, no(C)), 0), (some(0, some(0, A)), 1), (some(0, some(0, some(0, A))), -7), (both(D, some(0, D)), 1))
 
     def test_wrong_form_goes_ahead_of_too_many_atoms(self):
-        six = both(A, B, C, D, some(0, [0]), each(0, [0]))
-        self.expect([can(*six), can(*six, 0), can(*both(six, [2, 4])), can(*[3] + six)], [-7, -1, -1, -1])
+        six = SIX_ATOMS
+        self.expect([can(*six), can(*six, 0), can(*both(six, [2, 4])), can(3, *six)], [-7, -1, -1, -1])
 
 
 if __name__ == "__main__":

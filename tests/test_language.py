@@ -103,6 +103,55 @@ class LanguageTest(unittest.TestCase):
                 self.assertRegex(word, r"^[A-Za-z][A-Za-z0-9_]*$", where)
                 self.assertFalse(hasattr(builtins, word), (where, word))
 
+    def test_imports_come_from_where_the_name_stands_and_in_no_ring(self):
+        drawn = {}
+        for path, text in self.each_file():
+            tree = ast.parse(text)
+            imports = [node for node in tree.body if isinstance(node, ast.ImportFrom)]
+            drawn[path.stem] = {node.module.split(".")[1] for node in imports}
+            for node in imports:
+                other = ast.parse((PACKAGE / (node.module.split(".")[1] + ".py")).read_text())
+                there = {getattr(item, "name", None) for item in other.body}
+                there |= {item.targets[0].id for item in other.body if isinstance(item, ast.Assign)}
+                self.assertLessEqual({alias.name for alias in node.names}, there, path.name)
+        while drawn:
+            free = [name for name in drawn if not drawn[name] & set(drawn)]
+            self.assertTrue(free, drawn)
+            drawn = {name: others for name, others in drawn.items() if name not in free}
+
+    def test_names_of_the_top_are_bound_once(self):
+        for path, text in self.each_file():
+            tree = ast.parse(text)
+            top = [item.name for item in tree.body if isinstance(item, (ast.FunctionDef, ast.ClassDef))]
+            top += [item.targets[0].id for item in tree.body if isinstance(item, ast.Assign)]
+            top += [alias.name for item in tree.body if isinstance(item, ast.ImportFrom) for alias in item.names]
+            self.assertEqual(len(top), len(set(top)), path.name)
+            for function in [node for node in ast.walk(tree) if isinstance(node, ast.FunctionDef)]:
+                local = {node.arg for node in ast.walk(function) if isinstance(node, ast.arg)}
+                local |= {node.id for node in ast.walk(function) if isinstance(node, ast.Name) and isinstance(node.ctx, ast.Store)}
+                self.assertFalse(local & set(top), (path.name, function.name))
+
+    def test_what_a_loop_walks_is_not_changed_in_it(self):
+        for name, loop in self.each_node():
+            if isinstance(loop, ast.For):
+                walked = {ast.unparse(node) for node in ast.walk(loop.iter) if isinstance(node, (ast.Name, ast.Attribute))}
+                for node in [node for part in loop.body for node in ast.walk(part)]:
+                    if isinstance(node, ast.Call) and isinstance(node.func, ast.Attribute):
+                        if node.func.attr in ("append", "extend", "insert", "pop", "remove", "clear", "reverse", "setdefault", "update"):
+                            self.assertNotIn(ast.unparse(node.func.value), walked, (name, node.lineno))
+                    if isinstance(node, ast.Subscript) and isinstance(node.ctx, ast.Store):
+                        self.assertNotIn(ast.unparse(node.value), walked, (name, node.lineno))
+
+    def test_sets_are_only_sorted(self):
+        for name, node in self.each_node():
+            self.assertNotIsInstance(node, (ast.Set, ast.SetComp), name)
+            if isinstance(node, ast.Call):
+                for argument in node.args:
+                    if isinstance(argument, ast.Call) and ast.unparse(argument.func) == "set":
+                        self.assertIn(ast.unparse(node.func), ("sorted", "len"), (name, node.lineno))
+            elif any(isinstance(part, ast.Call) and ast.unparse(part.func) == "set" for part in ast.iter_child_nodes(node)):
+                self.fail((name, getattr(node, "lineno", 0)))
+
     def test_methods(self):
         methods, values, used = set(), set(), set()
         for name, node in self.each_node():

@@ -2,9 +2,7 @@
 
 import unittest
 
-from tests.oracle import ExpectTest, begins, can, line
-
-LARGEST = 4294967295
+from tests.oracle import ExpectTest, NOT_TWO, begins, can, line
 
 
 class LineTest(ExpectTest):
@@ -20,22 +18,7 @@ class LineTest(ExpectTest):
                 self.expect([line(concept, [0]), line([0], concept)], [0, 1])
 
     def test_what_is_not_just_two_concepts(self):
-        wrong = [
-            [], [0], [2], [2, 0], [3, 0, 0], [3, 0, 2, 1], [5, 0], [6, 0, 0], [7, 1, 2, 0],
-            [0, 0, 0], [2, 0, 2, 1, 0], [0, 0, 2], [0, 2], [0, 3, 0], [0, 3], [0, 4, 2, 1], [0, 5], [0, 6],
-            [0, 6, 1], [0, 7], [0, 7, 0], [0, 7, 0, 2], [0, 2, 0, 1], [3, 0, 0, 0, 0], [4, 0], [5, 0, 0, 0],
-        ]
-        for row in wrong:
-            with self.subTest(row=row):
-                self.expect([line(row), line([0], [0])], [-1, 0])
-
-    def test_names_and_roles_above_3_and_first_numbers_above_7(self):
-        wrong = [
-            [2, 4, 0], [0, 2, 4], [0, 2, LARGEST], [6, 4, 0, 0], [0, 6, 4, 0], [0, 7, 4, 0], [0, 6, LARGEST, 0],
-            [0, 7, LARGEST, 0], [0, 6, 0, 2, 4], [0, 7, 0, 6, 4, 0], [8, 0], [0, 8], [0, LARGEST], [LARGEST, 0],
-            [LARGEST, LARGEST], [9, 0, 0], [0, 5, 8], [0, 3, 0, 8], [0, 6, 0, 8], [8], [LARGEST],
-        ]
-        for row in wrong:
+        for row in NOT_TWO:
             with self.subTest(row=row):
                 self.expect([line(row), line([0], [0])], [-1, 0])
 

@@ -5,9 +5,7 @@ import random
 import unittest
 
 from rolehouse.house import answers
-from tests.oracle import ExpectTest, begins, can, join, line, role, turned, under_pairs
-
-LARGEST = 4294967295
+from tests.oracle import ExpectTest, LARGEST, begins, can, join, line, role, turned, under_pairs
 
 
 class RoleTest(ExpectTest):
